@@ -1,0 +1,1 @@
+"""Shapebetween: what the past of a self-adjusting search tree allows."""
