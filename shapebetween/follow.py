@@ -4,7 +4,7 @@ from shapebetween.closed import closed_around
 from shapebetween.errors import AlreadyLiving, Barred, InvalidKey
 from shapebetween.limits import check_limit
 from shapebetween.lots import check_lives, is_key, is_lot, neighbours_of
-from shapebetween.rows import Row, as_row, check_fits, living_behind, row_fits
+from shapebetween.rows import Row, as_row, check_fits, keys_behind, row_fits
 from shapebetween.weaktrees import WeakTree, unmet_need
 
 
@@ -16,10 +16,15 @@ def past_behind_row(tree, row):
     if missing is not None:
         key, needed = missing
         raise Barred(key, needed)
+    return tree_behind(tree, taken)
+
+
+def tree_behind(tree, row):
+    """The past tree behind a Row that is known to be able to follow."""
     levels = tree.levels()
-    behind = living_behind(tree.living, taken)
+    behind = keys_behind(tree.living, row)
     # Levels are never below 0, so the touched keys have the greatest number.
-    return WeakTree(behind, [1 if key in taken.lot else -levels[tree.living.index(key)] for key in behind])
+    return WeakTree(behind, [1 if key in row.lot else -levels[tree.living.index(key)] for key in behind])
 
 
 def future_ahead_of_row(row, tree):
@@ -33,6 +38,13 @@ def can_follow(tree, row):
         return False
     taken = as_row(row)
     return row_fits(tree.living, taken) and unmet_need(tree, taken.lot_before()) is None
+
+
+def can_be_ahead(row, tree):
+    """Whether any value is a row that can be put ahead of a script with this future tree."""
+    if not isinstance(row, Row) and not is_lot(row):
+        return False
+    return can_follow(tree, as_row(row).backward())
 
 
 def least_touching(tree, lot):

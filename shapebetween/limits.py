@@ -1,6 +1,6 @@
 """The limits of the package, and what counts as a number."""
 
-from shapebetween.errors import PastEnd, TooMany, UnknownName
+from shapebetween.errors import InvalidNumber, PastEnd, TooMany, UnknownName
 
 WORDS = (
     "keys",
@@ -61,3 +61,10 @@ def check_end(number, count):
     """Raise PastEnd unless number is a number from 0 to count - 1."""
     if not is_number(number) or number < 0 or number >= count:
         raise PastEnd(number, count)
+
+
+def check_times(times):
+    """Raise InvalidNumber or TooMany for any value that is no number of repetitions."""
+    if not is_number(times) or times < 0:
+        raise InvalidNumber(times)
+    check_limit("digits", len(str(times)))

@@ -115,3 +115,14 @@ def key_of_word(word):
     if word[0] == "0" and len(word) > 1:
         return None
     return int(word)
+
+
+def keys_of_words(words):
+    """The key set that words write in ascending order, None if they write none."""
+    found = tuple([key_of_word(word) for word in words])
+    return found if is_key_set(found) else None
+
+
+def comma_words(found):
+    """The keys in their order, with commas between them."""
+    return ", ".join([str(key) for key in found])

@@ -130,7 +130,12 @@ def living_behind(living, row):
     """The keys that live behind a row that fits."""
     taken = as_row(row)
     check_fits(living, taken)
-    staying = [key for key in living if key != taken.going]
-    if taken.coming is not None:
-        staying.append(taken.coming)
+    return keys_behind(living, taken)
+
+
+def keys_behind(living, row):
+    """The keys that live behind a Row that is known to fit."""
+    staying = [key for key in living if key != row.going]
+    if row.coming is not None:
+        staying.append(row.coming)
     return tuple(sorted(staying))

@@ -1,7 +1,8 @@
 """Shapes: binary search trees on a key set."""
 
 from shapebetween.limits import check_limit
-from shapebetween.lots import GREATEST_KEY, check_all_live, check_distinct_keys, check_lives, is_key_set, lives_in
+from shapebetween.lots import GREATEST_KEY, check_all_live, check_distinct_keys, check_lives, comma_words
+from shapebetween.lots import is_key_set, lives_in
 from shapebetween.treetexts import levels_text, read_levels
 
 
@@ -111,8 +112,7 @@ class Shape:
         return f"{self.text()}"
 
     def __repr__(self):
-        words = ", ".join([str(key) for key in self._order])
-        return f"Shape({words})"
+        return f"Shape({comma_words(self._order)})"
 
     def __contains__(self, key):
         return lives_in(self.living, key)

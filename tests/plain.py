@@ -3,8 +3,16 @@
 import itertools
 import unittest
 
+from shapebetween.forms import Form
+from shapebetween.meeting import Meeting
+from shapebetween.programs import Program
+from shapebetween.recipes import Recipe
 from shapebetween.rows import Row
+from shapebetween.runs import Runs
+from shapebetween.scripts import Script
 from shapebetween.shapes import Shape
+from shapebetween.stores import Store
+from shapebetween.turning import Keep
 from shapebetween.weaktrees import WeakTree
 
 
@@ -14,7 +22,14 @@ def any_values():
         None, True, False, "", "a", "x y", (True,), (False, 1), (None,), ("1",), [], [1], [0, 1], {}, {1: 2},
         ((1,),), ((), (1, (2, [3, {4: "5"}]))), [None], Row((1, 2)), Shape(1, 2), WeakTree((1, 2), (0, 0)), Shape(),
         (Row((1,)),), (Shape(1),), [WeakTree((1,), (0,))], (2, 1), (1, 1), (-1,), (1000,), (1, 2, 2), -1, 10 ** 39,
+        Script((1, 2)), Script((1, 2), ((1,),)), [Script(())], Store((1,)), Keep(), {"a": Form(Script((1,)))},
+        Meeting(WeakTree((1,), (0,)), WeakTree((1,), (0,))), Recipe((1,)), Program((1,), ("a",)), Runs(Script((1,))),
     ]
+
+
+def no_numbers():
+    """Values of many kinds that are no numbers."""
+    return [value for value in any_values() if isinstance(value, bool) or not isinstance(value, int)]
 
 
 class PlainCase(unittest.TestCase):

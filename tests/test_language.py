@@ -12,7 +12,7 @@ TREES = {name: ast.parse(text) for name, text in FILES.items()}
 BUILTINS = {
     "len", "range", "enumerate", "zip", "min", "max", "sum", "abs", "sorted", "reversed", "int", "str", "bool", "list",
     "tuple", "dict", "set", "isinstance", "ord", "repr", "any", "all", "divmod", "iter", "ValueError", "LookupError",
-    "IndexError", "TypeError",
+    "IndexError", "TypeError", "NotImplemented",
 }
 METHODS = set("""
     append clear copy count endswith extend find get index insert isalnum isalpha isdigit islower isspace isupper items
@@ -32,6 +32,7 @@ BARRED_WORDS = set("""
     type typing typing_extensions enum Enum IntEnum StrEnum Flag IntFlag Generic Protocol ABC ABCMeta namedtuple
     NamedTuple TypedDict TYPE_CHECKING abstractmethod
 """.split())
+CHANGING = {"append", "clear", "extend", "insert", "pop", "remove", "reverse", "setdefault", "update"}
 LISTED_AT_ONCE = {"any", "all", "min", "max", "sum", "sorted"}
 
 
@@ -229,7 +230,7 @@ class TestNames(unittest.TestCase):
             for node in ast.walk(tree):
                 if isinstance(node, (ast.For, ast.comprehension)):
                     over.add(id(node.iter))
-                if isinstance(node, ast.Call) and getattr(node.func, "id", "") in ("list", "tuple", "enumerate", "zip"):
+                if isinstance(node, ast.Call) and getattr(node.func, "id", "") in ("list", "tuple", "enumerate", "zip", "reversed"):
                     over.update(id(arg) for arg in node.args)
             for node in ast.walk(tree):
                 if isinstance(node, ast.Call) and getattr(node.func, "id", "") in ("range", "zip", "enumerate"):
@@ -244,6 +245,131 @@ class TestNames(unittest.TestCase):
             for node in ast.walk(tree):
                 if isinstance(node, ast.Call) and getattr(node.func, "id", "") == "set":
                     self.assertIn(id(node), inside, where(name, node))
+
+
+def parts_of(node, kinds):
+    return [part for part in ast.walk(node) if isinstance(part, kinds)]
+
+
+def makes_a_list(value):
+    """Whether an expression surely makes a list or a dict that nothing else holds."""
+    if isinstance(value, (ast.List, ast.ListComp, ast.Dict, ast.DictComp)):
+        return True
+    if isinstance(value, ast.BinOp) and isinstance(value.op, ast.Mult):
+        return isinstance(value.left, ast.List)
+    if isinstance(value, ast.Subscript):
+        return isinstance(value.slice, ast.Slice)
+    return isinstance(value, ast.Call) and getattr(value.func, "id", "") in ("list", "dict", "sorted")
+
+
+def assigned_values(node, word):
+    """All values that a function assigns to a name; None for a loop, a parameter or a part of a tuple."""
+    found = [None for arg in parts_of(node, ast.arg) if arg.arg == word]
+    for part in parts_of(node, (ast.Assign, ast.For)):
+        for target in part.targets if isinstance(part, ast.Assign) else [part.target]:
+            if getattr(target, "id", "") == word:
+                found.append(part.value if isinstance(part, ast.Assign) else None)
+            elif any(getattr(name, "id", "") == word and isinstance(name.ctx, ast.Store) for name in ast.walk(target)):
+                found.append(None)
+    return found
+
+
+class TestOperators(unittest.TestCase):
+    """Operators, properties and the like, and all that they call, change only what they created."""
+
+    def setUp(self):
+        self.methods, self.functions, self.classes = {}, {}, {}
+        for name, tree in TREES.items():
+            for node in tree.body:
+                if isinstance(node, ast.FunctionDef):
+                    self.functions[node.name] = (name, node)
+                if isinstance(node, ast.ClassDef):
+                    self.classes[node.name] = (name, node)
+                    for part in parts_of(node, ast.FunctionDef):
+                        self.methods.setdefault(part.name, []).append((name, part))
+
+    def called_from(self, node):
+        found = []
+        for call in parts_of(node, ast.Call):
+            word = getattr(call.func, "id", None) or getattr(call.func, "attr", None)
+            if word in self.functions:
+                found.append(self.functions[word])
+            if word in self.classes:
+                found += [(self.classes[word][0], part) for part in self.classes[word][1].body
+                          if getattr(part, "name", "") == "__init__"]
+            if isinstance(call.func, ast.Attribute) and word not in METHODS:
+                found += self.methods.get(word, [])
+        return found
+
+    def reached(self):
+        ahead = [(name, part) for name, tree in TREES.items() for part in parts_of(tree, ast.FunctionDef)
+                 if (part.name in DOUBLE and part.name not in ("__init__", "__call__", "__iter__", "__setitem__"))
+                 or "property" in [ast.unparse(word) for word in part.decorator_list]]
+        found = {}
+        while ahead:
+            name, node = ahead.pop()
+            if (name, node.lineno) not in found:
+                found[name, node.lineno] = (name, node)
+                ahead += self.called_from(node)
+        return list(found.values())
+
+    def test_only_what_was_created_is_changed(self):
+        reached = self.reached()
+        self.assertGreater(len(reached), 80)
+        for name, node in reached:
+            for part in parts_of(node, (ast.Attribute, ast.Subscript)):
+                if isinstance(part.ctx, ast.Store):
+                    self.check_target(name, node, part)
+            for call in parts_of(node, ast.Call):
+                if getattr(call.func, "attr", "") in CHANGING:
+                    self.assertTrue(self.is_created(node, call.func.value), where(name, call))
+            self.assertEqual(parts_of(node, (ast.Yield, ast.YieldFrom)), [], where(name, node))
+
+    def check_target(self, name, node, part):
+        if isinstance(part, ast.Subscript):
+            self.assertTrue(self.is_created(node, part.value), where(name, part))
+        elif node.name == "__init__":
+            self.assertEqual(part.value.id, "self", where(name, part))
+        else:
+            calls = [getattr(value.func, "id", "") for value in assigned_values(node, part.value.id)]
+            self.assertTrue(calls and all(word in self.classes for word in calls), where(name, part))
+
+    def is_created(self, node, value):
+        if not isinstance(value, ast.Name):
+            return False
+        values = assigned_values(node, value.id)
+        return bool(values) and all(other is not None and makes_a_list(other) for other in values)
+
+    def test_forms_of_double_underscore_methods(self):
+        for name, node in all_nodes(ast.FunctionDef):
+            if node.name in ("__len__", "__repr__", "__str__", "__bool__"):
+                self.assertIsInstance(node.body[-1], ast.Return, where(name, node))
+            if node.name in ("__len__", "__repr__", "__str__", "__eq__"):
+                self.assertEqual(parts_of(node, (ast.Assign, ast.For)), [], where(name, node))
+            if node.name == "__len__":
+                self.assertEqual(ast.unparse(node.body[-1])[:11], "return len(", where(name, node))
+            if node.name == "__bool__":
+                self.assertTrue(ast.unparse(node.body[-1]).startswith(("return True", "return bool(")))
+            if node.name in ("__repr__", "__str__"):
+                for part in parts_of(node, ast.Return):
+                    plain = isinstance(part.value, (ast.JoinedStr, ast.Constant))
+                    self.assertTrue(plain, where(name, part))
+        for name, node in all_nodes(ast.ClassDef):
+            words = [part.name for part in node.body if isinstance(part, ast.FunctionDef)]
+            if "__getitem__" in words:
+                self.assertIn("__iter__", words, where(name, node))
+        self.assertNotIn("keys", self.methods)
+
+    def test_no_name_is_a_property_and_an_attribute(self):
+        words = {part.name for _, part in all_nodes(ast.FunctionDef)
+                 if "property" in [ast.unparse(word) for word in part.decorator_list]}
+        values = {node.targets[0].id for _, top in all_nodes(ast.ClassDef) for node in top.body
+                  if isinstance(node, ast.Assign)}
+        self.assertEqual(values, {"MOST", "word"})
+        for name, node in all_nodes(ast.Attribute):
+            if isinstance(node.ctx, ast.Store):
+                self.assertNotIn(node.attr, words | values, where(name, node))
+        self.assertFalse(words & set(self.functions) | values & set(self.methods))
 
 
 if __name__ == "__main__":
