@@ -4,6 +4,13 @@ import importlib
 import inspect
 import unittest
 
+from shapebetween.forms import Form
+from shapebetween.meeting import Meeting
+from shapebetween.programs import Program
+from shapebetween.recipes import Recipe
+from shapebetween.runs import Runs
+from shapebetween.scripts import Script
+
 FUNCTIONS = {
     "limits": ["limit_of(what)", "check_limit(what, count)"],
     "lots": ["is_key(value)", "is_key_set(value)", "is_lot(value)", "is_name(value)",
@@ -19,8 +26,16 @@ FUNCTIONS = {
     "follow": ["past_behind_row(tree, row)", "future_ahead_of_row(row, tree)", "can_follow(tree, row)",
                "least_touching(tree, lot)", "least_coming(tree, key)", "least_going(tree, key)"],
     "parting": ["parting_lot(one, other)"],
+    "depths": ["above(meeting, upper, lower, *, how='surely')", "depth_row(meeting, key)",
+               "least_depth(meeting, key)", "greatest_depth(meeting, key)", "surely_pairs(meeting)"],
+    "runs": ["run_fault(script, shapes)"],
+    "playing": ["play(script, shape, rule)", "plays(script, shape, rule)"],
+    "surroundings": ["past_behind(past, form)", "future_ahead(form, future)", "fits_between(past, form, future)",
+                     "parting_surroundings(one, other)"],
+    "badwalks": ["is_safe(program)", "bad_walk(program)", "bad_pair(program)"],
 }
-GENERATORS = {"all_shapes", "closed_lots", "resolving_shapes", "all_trees"}
+GENERATORS = {"all_shapes", "closed_lots", "resolving_shapes", "all_trees", "common_shapes", "walk_all"}
+RULE = ["ordered(self, shape, row, rest)", "__call__(self, shape, row, rest)", "favourites(self)", "__repr__(self)"]
 CLASSES = {
     ("rows", "Row", "(lot, *, coming=None, going=None)"): [
         "lot_before(self)", "lot_after(self)", "backward(self)", "text(self)", "read(text)", "__str__(self)",
@@ -34,7 +49,47 @@ CLASSES = {
         "gaps(self)", "levels(self)", "tops(self, one, other)", "needs(self, key)", "cut(self, one, other)",
         "kept(self, lot)", "level(living)", "of_shape(shape)", "read(text)", "text(self)", "mirrored(self)",
         "__str__(self)", "__repr__(self)", "__len__(self)", "__eq__(self, other)"],
+    ("scripts", "Script", "(living, rows=())"): [
+        "rows(self)", "living_at(self, moment)", "__getitem__(self, at)", "__iter__(self)", "first_crosswise(self)",
+        "all_crosswise(self)", "is_crosswise(self, value)", "first_marked(self)", "touches(self)",
+        "__add__(self, other)", "__mul__(self, other)", "__rmul__(self, other)", "text(self)", "__str__(self)",
+        "read(text)", "__eq__(self, other)", "__len__(self)", "__bool__(self)", "__repr__(self)"],
+    ("stores", "Store", "(living=())"): [
+        "apply(self, row)", "touch(self, *touched)", "come(self, key, *others)", "go(self, key, *others)",
+        "can(self, row)", "least_touch(self, lot)", "least_come(self, key)", "least_go(self, key)",
+        "past_rows(self)", "twin(self)", "begun_with(self)", "__contains__(self, key)", "__len__(self)",
+        "__bool__(self)", "__repr__(self)"],
+    ("twoends", "TwoEnds", "(living=())"): [
+        "put_last(self, row)", "put_first(self, row)", "can_last(self, row)", "can_first(self, row)",
+        "joined(self, other)", "written_out(self)", "__len__(self)", "__bool__(self)", "__repr__(self)"],
+    ("meeting", "Meeting", "(past, future)"): [
+        "shared(self, one, other)", "all_crossing(self)", "common_shapes(self)", "common_at(self, number)",
+        "number_of(self, shape)", "__len__(self)", "__bool__(self)", "__repr__(self)"],
+    ("runs", "Runs", "(script, *, told=None)"): [
+        "choices(self)", "run_at(self, number)", "run_number(self, shapes)", "walk_all(self)", "__len__(self)",
+        "__bool__(self)", "__repr__(self)"],
+    ("turning", "Keep", "()"): RULE,
+    ("turning", "Halves", "()"): RULE,
+    ("turning", "Lift", "(*favourites)"): RULE + ["__init__(self, *favourites)"],
+    ("turning", "Soonest", "()"): RULE,
+    ("forms", "Form", "(script)"): [
+        "__add__(self, other)", "__mul__(self, other)", "__rmul__(self, other)", "__eq__(self, other)",
+        "is_idle(self, one, other)", "__len__(self)", "__bool__(self)", "__repr__(self)"],
+    ("recipes", "Recipe", "(living, rules=())"): [
+        "rules(self)", "names(self)", "with_rule(self, name, items)", "form(self, name)", "moments(self, name)",
+        "touches(self, name)", "lot_at(self, name, moment)", "written(self, name)", "text(self)", "__str__(self)",
+        "read(text)", "__contains__(self, name)", "__eq__(self, other)", "__len__(self)", "__bool__(self)",
+        "__repr__(self)"],
+    ("programs", "Program", "(living, nodes, edges=())"): [
+        "nodes(self)", "edges(self)", "leaving(self, node)", "end_of(self, walk)", "script_of(self, walk)",
+        "__eq__(self, other)", "__len__(self)", "__repr__(self)"],
 }
+PROPERTIES = {"stores.Store": ["tree", "present", "next_count", "age"],
+              "twoends.TwoEnds": ["past_tree", "future_tree", "at_begin", "at_end"]}
+ATTRIBUTES = {"scripts.Script": ["living", "end", "feasible", "past", "future"],
+              "meeting.Meeting": ["living", "past", "future", "meets", "crossing", "total"],
+              "runs.Runs": ["script", "total"], "forms.Form": ["living", "feasible", "past", "future", "idle"],
+              "recipes.Recipe": ["living"], "programs.Program": ["living", "start"]}
 STATIC = {"read", "level", "of_shape"}
 
 
@@ -60,6 +115,27 @@ class TestInterface(unittest.TestCase):
                 self.assertIs(isinstance(found, staticmethod), word in STATIC, word)
                 plain = found.__func__ if word in STATIC else found
                 self.assertEqual(str(inspect.signature(plain)), "(" + rest, word)
+                self.assertIs(inspect.isgeneratorfunction(plain), word in GENERATORS, word)
+
+    def test_properties(self):
+        for name, words in PROPERTIES.items():
+            file, kind = name.split(".")
+            for word in words:
+                found = getattr(importlib.import_module(f"shapebetween.{file}"), kind).__dict__[word]
+                self.assertIsInstance(found, property)
+                self.assertIsNone(found.fset)
+
+    def test_attributes_are_set_when_an_object_is_created(self):
+        script = Script((1, 2), [(1,)])
+        made = {"scripts.Script": [script, Script((1, 2), [(1,), (2,)])],
+                "meeting.Meeting": [Meeting(script.past, script.future)], "runs.Runs": [Runs(script)],
+                "forms.Form": [Form(script), Form(script) + Form(script), Form(Script((1, 2), [(1,), (2,)])),
+                               Form(script) + Form(Script((1, 2), [(2,)]))],
+                "recipes.Recipe": [Recipe((1, 2))], "programs.Program": [Program((1, 2), ["a"])]}
+        for name, words in ATTRIBUTES.items():
+            for value in made[name]:
+                for word in words:
+                    self.assertIn(word, vars(value))
 
 
 if __name__ == "__main__":

@@ -54,7 +54,7 @@ class TestWhatScriptsSay(PlainCase):
                     for k in script.living_at(min(max(i, 0), len(rows))):
                         for x in script.living + (8,):
                             self.assertIs(script.is_crosswise((i, j, k, x)), (i, j, k, x) in wanted)
-        self.assertGreater(min(seen.values()), 60)
+        self.assertGreater(min(seen.values()), 50)
 
     def test_first_crosswise_tells_the_first_row_that_cannot_follow(self):
         for script in drawn_scripts(21):
@@ -257,7 +257,8 @@ class TestJoinedAndRepeated(PlainCase):
         for script in (changing, same, Script((1, 2))):
             for value in [*no_numbers(), -1, -10 ** 39]:
                 self.check_raises(InvalidNumber(value), lambda: script * value)
-                self.check_raises(InvalidNumber(value), lambda: value * script)
+                if not isinstance(value, Script):
+                    self.check_raises(InvalidNumber(value), lambda: value * script)
             self.check_raises(TooMany("digits", 31), lambda: script * 10 ** 30)
             self.check_raises(TooMany("digits", 40), lambda: (10 ** 40 - 1) * script)
         self.check_raises(OtherKeys(3), lambda: changing * (10 ** 30 - 1))
