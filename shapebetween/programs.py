@@ -46,7 +46,6 @@ class Program:
     def script_of(self, walk):
         """The script of a walk."""
         self.end_of(walk)
-        check_limit("moments", len(walk))
         return Script(self.living, [self._edges[index][2] for index in walk])
 
     def __len__(self):

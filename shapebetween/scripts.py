@@ -78,7 +78,6 @@ class Script:
         if not isinstance(other, Script):
             return NotImplemented
         check_same_keys(self.end, other.living)
-        check_limit("moments", len(self._rows) + len(other._rows))
         return Script(self.living, self._rows + other._rows)
 
     def __mul__(self, other):

@@ -140,7 +140,7 @@ class TestMeeting(PlainCase):
                 self.assertEqual((meeting.total, list(meeting.common_shapes())), (1, [shape]))
 
     def test_errors(self):
-        for one, other, key in [((1, 2), (1, 3), 2), ((), (5,), 5), ((4, 7), (0, 4, 7), 0)]:
+        for one, other, key in [((1, 2), (1, 3), 2), ((), (5,), 5), ((4, 7), (0, 4, 7), 0), ((1,), (8,), 1)]:
             self.check_raises(OtherKeys(key), Meeting, WeakTree.level(one), WeakTree.level(other))
         meeting = Meeting(WeakTree.read("[1] 2 [3]"), WeakTree.read("1 2 3"))
         for value in [*any_values(), 0, 4]:

@@ -227,6 +227,7 @@ class TestJoinedAndRepeated(PlainCase):
         self.check_raises(OtherKeys(3), one.__add__, one)
         self.check_raises(OtherKeys(0), one.__add__, Script((0, 1, 2, 3), [(0,)] * 60))
         self.check_raises(OtherKeys(2), one.__add__, Script((1, 4), [(4,)] * 60))
+        self.check_raises(OtherKeys(1), Script((1,), [(1,)] * 31).__add__, Script((8,), [(8,)] * 31))
         same = Script((1, 2), [(1,)] * 31)
         self.check_raises(TooMany("moments", 61), same.__add__, Script((1, 2), [(1,)] * 30))
         self.assertEqual(len(same + Script((1, 2), [(2,)] * 29)), 60)
@@ -265,6 +266,8 @@ class TestJoinedAndRepeated(PlainCase):
         self.check_raises(OtherKeys(3), lambda: 2 * changing)
         self.check_raises(TooMany("moments", 2 * (10 ** 30 - 1)), lambda: same * (10 ** 30 - 1))
         self.check_raises(TooMany("moments", 62), lambda: 31 * same)
+        self.check_raises(TooMany("moments", 61), lambda: Script((1, 2), [(1,)]) * 61)
+        self.check_raises(TooMany("moments", 61), lambda: 61 * Script((1, 2), [(1,)]))
         self.assertEqual(len(same * 30), 60)
         self.assertEqual(len(30 * same), 60)
 

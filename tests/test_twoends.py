@@ -153,6 +153,7 @@ class TestJoined(PlainCase):
         one, other = of_script(Script((1, 2), [(1,)])), of_script(Script((1, 2), [(2,)]))
         self.check_raises(OtherKeys(0), many.joined, TwoEnds((0, 1, 2)))
         self.check_raises(OtherKeys(2), many.joined, TwoEnds((1, 3)))
+        self.check_raises(OtherKeys(3), many.joined, of_script(Script((1, 2, 3), [(1, 2)] * 31)))
         self.check_raises(TooMany("moments", 62), many.joined, more)
         self.check_raises(NotMeeting(1, 2), one.joined, other)
         self.check_raises(NotMeeting(2, 1), other.joined, one)
