@@ -83,13 +83,6 @@ class TestMeeting(PlainCase):
                 met[meeting.meets] += 1
         self.assertGreater(min(met.values()), 20)
 
-    def test_examples(self):
-        past = WeakTree((1, 2, 3, 4), (1, 1, 1, 0))
-        future = WeakTree((1, 2, 3, 4), (1, 0, 1, 1))
-        self.assertEqual([past.text(), future.text(), Meeting(past, future).total],
-                         ["1 2 3 [4]", "1 [2] 3 4", 2])
-        self.assertEqual(Meeting(WeakTree((1, 2), (1, 2)), WeakTree((1, 2), (2, 1))).crossing, (2, 1))
-
     def test_where_nothing_lives(self):
         empty = WeakTree((), ())
         meeting = Meeting(past=empty, future=empty)

@@ -3,10 +3,11 @@
 import random
 import re
 
-from shapebetween.errors import DuplicateName, InvalidText, Missing, ShapeError, TooMany, UnknownKey, UnknownName
+from shapebetween.errors import DuplicateName, InvalidText, TooMany, UnknownKey, UnknownName
 from shapebetween.recipes import Recipe
 from shapebetween.scripts import Script
-from tests.plain import PlainCase, any_values
+from tests.bent import TextCase, bent_texts
+from tests.plain import any_values
 from tests.test_recipes import drawn_rules
 from tests.test_scripttexts import plain_keys
 
@@ -45,35 +46,7 @@ def plain_reading(text):
     return len(lines) if rest else (tuple(plain_keys(words[1:])), rules)
 
 
-def bent_texts(draw, text):
-    """The text with a line left out, doubled or changed, or with a sign put in, left out or changed."""
-    lines = text.splitlines(keepends=True)
-    for at in range(len(lines)):
-        yield "".join(lines[:at] + lines[at + 1:])
-        yield "".join(lines[:at] + [lines[at]] + lines[at:])
-        yield "".join(lines[:at] + [draw.choice(["living\n", "a =\n", "a = touch\n", "\n", "touch 1\n"])] + lines[at + 1:])
-    for at in range(len(text) + 1):
-        sign = draw.choice("0123456789 *=,-\nabtouch")
-        yield text[:at] + sign + text[at:]
-        yield text[:at] + text[at + 1:]
-        yield text[:at] + sign + text[at + 1:]
-
-
-class TestTexts(PlainCase):
-    def check_reading(self, text):
-        wanted = plain_reading(text)
-        if isinstance(wanted, int):
-            self.check_raises(InvalidText(wanted), Recipe.read, text)
-            return "text"
-        try:
-            recipe = Recipe(*wanted)
-        except (ShapeError, Missing) as error:
-            self.check_raises(error, Recipe.read, text)
-            return error.code
-        self.assertEqual(Recipe.read(text), recipe)
-        self.assertEqual(recipe.text(), text)
-        return "read"
-
+class TestTexts(TextCase):
     def test_texts_that_are_told(self):
         recipe = Recipe((1, 2, 3), [("a", []), ("b", [(1, 2), ("a", 30), (3,)]), ("touch", [("b", 0)]),
                                     ("living", [("touch", 2), (2,)])])
@@ -91,13 +64,13 @@ class TestTexts(PlainCase):
             self.assertEqual(Recipe.read(str(recipe)).text(), recipe.text())
 
     def test_bent_texts(self):
-        draw, seen = random.Random(39), {}
+        draw, texts = random.Random(39), []
+        odd_lines = ["living\n", "a =\n", "a = touch\n", "\n", "touch 1\n"]
         for at in range(30):
             living = ((1, 2), (0, 10, 20))[at % 2]
-            recipe = Recipe(living, drawn_rules(draw, living, draw.randrange(1, 5), most=(3, 10 ** 30 - 1)[at % 3 == 0]))
-            for text in bent_texts(draw, recipe.text()):
-                code = self.check_reading(text)
-                seen[code] = seen.get(code, 0) + 1
+            rules = drawn_rules(draw, living, draw.randrange(1, 5), most=(3, 10 ** 30 - 1)[at % 3 == 0])
+            texts += bent_texts(draw, Recipe(living, rules).text(), odd_lines, "0123456789 *=,-\nabtouch")
+        seen = self.count_readings(Recipe, plain_reading, texts)
         for code in ("text", "read", "UnknownKey", "UnknownName", "DuplicateName", "TooMany"):
             self.assertGreater(seen.get(code, 0), 3, seen)
 

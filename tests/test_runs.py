@@ -75,15 +75,6 @@ class TestRuns(PlainCase):
                 self.check_raises(Stuck(moment, key), found.run_number, run)
                 return
 
-    def test_examples(self):
-        script = Script.read("living 2 4\n2 4\n2 +3 4\n3 -4\n2 3\n")
-        runs = Runs(script)
-        self.assertEqual([script.end, runs.choices(), runs.total], [(2, 3), [2, 2, 2, 1, 2], 16])
-        runs = Runs(Script((1, 2, 3), ((1, 2, 3), (2, 3))))
-        begin, first, last = runs.run_at(7)
-        self.assertEqual([begin.text(), first.text(), last.text(), runs.total],
-                         ["1 [[2] 3]", "[[1] 2] 3", "[[1] 2] 3", 20])
-
     def test_without_rows(self):
         for living in ((), (5,), (0, 5, 999)):
             found = self.check_runs(Script(living), None, [[shape] for shape in shapes_on(living)])

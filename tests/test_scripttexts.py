@@ -3,11 +3,12 @@
 import random
 import re
 
-from shapebetween.errors import AlreadyLiving, InvalidText, NeighbourMissed, ShapeError, TooMany, UnknownKey
+from shapebetween.errors import AlreadyLiving, InvalidText, NeighbourMissed, TooMany, UnknownKey
 from shapebetween.rows import Row
 from shapebetween.scripts import Script
+from tests.bent import TextCase, bent_texts
 from tests.drawn import drawn_living, drawn_script
-from tests.plain import PlainCase, any_values
+from tests.plain import any_values
 
 KEY = re.compile(r"(0|[1-9][0-9]{0,2})\Z")
 
@@ -47,35 +48,7 @@ def plain_reading(text):
     return tuple(plain_keys(lines[0].split(" ")[1:])), [plain_row(line) for line in lines[1:-1]]
 
 
-def bent_texts(draw, text):
-    """The text with a line left out, doubled or changed, or with a sign put in, left out or changed."""
-    lines = text.splitlines(keepends=True)
-    for at in range(len(lines)):
-        yield "".join(lines[:at] + lines[at + 1:])
-        yield "".join(lines[:at] + [lines[at]] + lines[at:])
-        yield "".join(lines[:at] + [draw.choice(["living\n", "1\n", "1 +2\n", "\n", " \n", "2 1\n"])] + lines[at + 1:])
-    for at in range(len(text) + 1):
-        sign = draw.choice("0123456789 +-\nalx,=*[.")
-        yield text[:at] + sign + text[at:]
-        yield text[:at] + text[at + 1:]
-        yield text[:at] + sign + text[at + 1:]
-
-
-class TestTexts(PlainCase):
-    def check_reading(self, text):
-        wanted = plain_reading(text)
-        if isinstance(wanted, int):
-            self.check_raises(InvalidText(wanted), Script.read, text)
-            return "text"
-        try:
-            script = Script(*wanted)
-        except (ShapeError, UnknownKey) as error:
-            self.check_raises(error, Script.read, text)
-            return error.code
-        self.assertEqual(Script.read(text), script)
-        self.assertEqual(script.text(), text)
-        return "read"
-
+class TestTexts(TextCase):
     def test_texts_that_are_told(self):
         self.assertEqual(Script((2, 4), [(2, 4), Row((2, 3, 4), coming=3), Row((3, 4), going=4), (2, 3)]).text(),
                          "living 2 4\n2 4\n2 +3 4\n3 -4\n2 3\n")
@@ -91,12 +64,12 @@ class TestTexts(PlainCase):
             self.assertEqual(Script.read(text=str(script)).text(), script.text())
 
     def test_bent_texts(self):
-        draw, seen = random.Random(38), {}
-        for at in range(40):
+        draw, texts = random.Random(38), []
+        odd_lines = ["living\n", "1\n", "1 +2\n", "\n", " \n", "2 1\n"]
+        for _ in range(40):
             script = drawn_script(draw, drawn_living(draw, pool=120), draw.randrange(1, 6), pool=120)
-            for text in bent_texts(draw, script.text()):
-                code = self.check_reading(text)
-                seen[code] = seen.get(code, 0) + 1
+            texts += bent_texts(draw, script.text(), odd_lines, "0123456789 +-\nalx,=*[.")
+        seen = self.count_readings(Script, plain_reading, texts)
         for code in ("text", "read", "UnknownKey", "AlreadyLiving", "NeighbourMissed"):
             self.assertGreater(seen[code], 5, seen)
 

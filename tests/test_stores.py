@@ -2,7 +2,6 @@
 
 import random
 
-from shapebetween.closed import closed_lots
 from shapebetween.errors import (AlreadyLiving, Barred, DuplicateKey, InvalidKey, InvalidLot, InvalidRow, Missing,
                                  NeighbourMissed, ShapeError, TooMany, UnknownKey)
 from shapebetween.follow import can_follow, least_coming, least_going, least_touching, past_behind_row
@@ -74,13 +73,6 @@ class TestStores(PlainCase):
             if value != ():
                 self.check_raises(InvalidLot(value), Store, value)
         self.check_raises(TooMany("keys", 13), Store, tuple(range(13)))
-
-    def test_the_example(self):
-        store = Store((1, 2, 3))
-        store.touch(2)
-        self.assertEqual([store.tree.text(), list(closed_lots(store.tree)), store.tree.needs(1), store.next_count],
-                         ["[1] 2 [3]", [(2,), (1, 2), (2, 3), (1, 2, 3)], (2,), 4])
-        self.check_raises(Barred(1, 2), store.touch, 1)
 
     def test_no_limit_on_moments(self):
         store = Store((1, 2))
