@@ -51,6 +51,12 @@ def moves_from(program, begin):
     return moves
 
 
+def waiting_states(program):
+    """The list of all states that walks reach, whether their scripts are feasible or not."""
+    moves = moves_from(program, (program.start, NOTHING))
+    return [state for state in moves if state != BAD]
+
+
 def moves_of(program, state):
     """The moves of a state."""
     node, pair = state
@@ -66,8 +72,7 @@ def moves_of(program, state):
 def pairs_behind(living, pair, lot):
     """The pairs that wait behind a lot because of a pair ahead of it; None stands for a clash with that pair."""
     if pair == NOTHING:
-        begun = [(k, x) for k in lot for x in living if k != x and touched_between(lot, k, x) == [k]]
-        return [NOTHING] + begun
+        return [NOTHING] + begun_pairs(living, lot)
     touched = touched_between(lot, pair[0], pair[1])
     if not touched:
         return [pair]
@@ -77,6 +82,11 @@ def pairs_behind(living, pair, lot):
 def touched_between(lot, k, x):
     """The list of the keys of the lot from k to x, in either order."""
     return [key for key in lot if min(k, x) <= key <= max(k, x)]
+
+
+def begun_pairs(living, lot):
+    """The pairs that begin to wait behind a lot."""
+    return [(k, x) for k in lot for x in living if k != x and touched_between(lot, k, x) == [k]]
 
 
 def distances(moves):

@@ -1,9 +1,8 @@
 """Forms: all that a script without marks asks of the scripts beside it."""
 
-from shapebetween.errors import Comes
 from shapebetween.limits import check_times
 from shapebetween.lots import check_lives, check_same_keys
-from shapebetween.scripts import Script
+from shapebetween.scripts import Script, check_unmarked
 from shapebetween.sharedtops import trees_meet
 from shapebetween.weaktrees import WeakTree
 
@@ -12,9 +11,7 @@ class Form:
     """The past tree, the future tree and the idle stretches of a feasible script; it never changes."""
 
     def __init__(self, script):
-        moment = script.first_marked()
-        if moment is not None:
-            raise Comes(moment)
+        check_unmarked(script)
         self.living = script.living
         self.feasible = script.feasible
         self.past = script.past

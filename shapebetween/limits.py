@@ -57,6 +57,11 @@ def is_number(value):
     return isinstance(value, int) and not isinstance(value, bool)
 
 
+def is_number_tuple(value, size):
+    """Whether any value is a tuple of so many numbers."""
+    return isinstance(value, tuple) and len(value) == size and all([is_number(item) for item in value])
+
+
 def check_end(number, count):
     """Raise PastEnd unless number is a number from 0 to count - 1."""
     if not is_number(number) or number < 0 or number >= count:

@@ -18,9 +18,12 @@ def is_key_set(value):
     """Whether any value is an ascending tuple of different keys."""
     if not isinstance(value, tuple):
         return False
-    if not all([is_key(key) for key in value]):
-        return False
-    return all([value[at - 1] < value[at] for at in range(1, len(value))])
+    return all([is_key(key) for key in value]) and is_ascending(value)
+
+
+def is_ascending(values):
+    """Whether each of the values, which can be compared, is greater than the one before it."""
+    return all([values[at - 1] < values[at] for at in range(1, len(values))])
 
 
 def is_lot(value):

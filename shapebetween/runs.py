@@ -1,6 +1,7 @@
 """Runs of a script: counted, ordered and numbered, all of them or those that follow told shapes."""
 
 from shapebetween.errors import InvalidWord, Stuck
+from shapebetween.faultwords import BEGIN, FORM, STEP
 from shapebetween.follow import future_ahead_of_row
 from shapebetween.limits import check_end
 from shapebetween.lots import check_same_keys
@@ -8,10 +9,6 @@ from shapebetween.resolving import resolves, resolving_table
 from shapebetween.shapes import Shape
 from shapebetween.steps import arranged_by, is_step, step
 from shapebetween.weaktrees import WeakTree, unmet_need
-
-FORM = "form"
-BEGIN = "begin"
-STEP = "step"
 
 
 class Runs:

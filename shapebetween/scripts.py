@@ -1,9 +1,9 @@
 """Scripts: which keys are touched at each moment, and what that leaves to past and future."""
 
 from shapebetween.crosswise import crosswise_tuples
-from shapebetween.errors import InvalidRow, InvalidText
+from shapebetween.errors import Comes, InvalidRow, InvalidText
 from shapebetween.follow import tree_behind
-from shapebetween.limits import check_end, check_limit, check_times, is_number
+from shapebetween.limits import check_end, check_limit, check_times, is_number_tuple
 from shapebetween.linetexts import lines_text, living_line, read_living, split_lines
 from shapebetween.lots import check_living, check_same_keys, is_lot
 from shapebetween.rows import Row, as_row, living_behind
@@ -45,9 +45,7 @@ class Script:
 
     def is_crosswise(self, value):
         """Whether any value is a crosswise tuple of the script."""
-        if not isinstance(value, tuple) or not all([is_number(item) for item in value]):
-            return False
-        return value in self.all_crosswise()
+        return is_number_tuple(value, 4) and value in self.all_crosswise()
 
     def first_marked(self):
         """The first moment of a row with a mark, None if there is none."""
@@ -153,6 +151,13 @@ def first_touches(living, rows):
             if key not in firsts:
                 firsts[key] = moment
     return WeakTree(living, [-firsts.get(key, len(rows)) for key in living])
+
+
+def check_unmarked(script):
+    """Raise Comes with the first moment of a row with a mark."""
+    moment = script.first_marked()
+    if moment is not None:
+        raise Comes(moment)
 
 
 def read_row(at, line):
