@@ -92,6 +92,11 @@ def plain_past(living, rows):
     return WeakTree(end, [lasts.get(key, 0) for key in end])
 
 
+def past_of_lots(living, lots):
+    """The weak tree of the last touches of rows without marks."""
+    return plain_past(living, [Row(lot) for lot in lots])
+
+
 def plain_future(living, rows):
     """The weak tree of the first touches, on the keys living at the begin."""
     firsts = {key: -moment for moment, row in reversed(list(enumerate(rows))) for key in row.lot}

@@ -3,7 +3,9 @@
 import itertools
 import unittest
 
+from shapebetween.benches import Bench
 from shapebetween.forms import Form
+from shapebetween.lookers import Looker
 from shapebetween.meeting import Meeting
 from shapebetween.programs import Program
 from shapebetween.recipes import Recipe
@@ -12,6 +14,7 @@ from shapebetween.runs import Runs
 from shapebetween.scripts import Script
 from shapebetween.shapes import Shape
 from shapebetween.stores import Store
+from shapebetween.tornlogs import TornLog
 from shapebetween.turning import Keep
 from shapebetween.weaktrees import WeakTree
 
@@ -24,6 +27,7 @@ def any_values():
         (Row((1,)),), (Shape(1),), [WeakTree((1,), (0,))], (2, 1), (1, 1), (-1,), (1000,), (1, 2, 2), -1, 10 ** 39,
         Script((1, 2)), Script((1, 2), ((1,),)), [Script(())], Store((1,)), Keep(), {"a": Form(Script((1,)))},
         Meeting(WeakTree((1,), (0,)), WeakTree((1,), (0,))), Recipe((1,)), Program((1,), ("a",)), Runs(Script((1,))),
+        Bench(), Looker(), TornLog((1,), ("#",)), (TornLog((1, 2)),),
     ]
 
 
