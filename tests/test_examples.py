@@ -1,13 +1,17 @@
-"""The examples of DOC.md for the modules that are built."""
+"""The examples of DOC.md."""
 
+from shapebetween.benches import Bench
 from shapebetween.closed import closed_lots
 from shapebetween.errors import Barred, InvalidText
 from shapebetween.forms import Form
+from shapebetween.gates import lower_bound
+from shapebetween.lazy import lazy_script
 from shapebetween.meeting import Meeting
 from shapebetween.runs import Runs
 from shapebetween.scripts import Script
 from shapebetween.shapes import Shape
 from shapebetween.stores import Store
+from shapebetween.tornlogs import TornLog
 from shapebetween.weaktrees import WeakTree
 from tests.plain import PlainCase
 
@@ -42,6 +46,21 @@ class TestExamples(PlainCase):
     def test_forms(self):
         form = Form(Script((1, 2, 3), ((2,), (1, 2))))
         self.assertEqual([repr(form), form * 10 ** 12 == form], ["Form(1 2 [3] | [1] 2 [3] | .)", True])
+
+    def test_wishes(self):
+        wishes = Script((1, 2, 3, 4, 5), ((3,), (1,), (4,), (2,), (5,)))
+        lazy = lazy_script(wishes)
+        self.assertEqual([lazy.touches(), lazy_script(wishes, side="rising").touches(), lower_bound(wishes)],
+                         [11, 10, 10])
+
+    def test_torn_logs(self):
+        log = TornLog((1, 2), ("#.", "?#"))
+        self.assertEqual([log.filling_count(), log.sure_cells(), log[1, 1]], [1, {(1, 1): "yes"}, "unread"])
+
+    def test_benches(self):
+        bench = Bench()
+        bench.play(["new a 1 2 3", "row a 2"])
+        self.assertEqual(bench.report(), ["a              3     4 [1] 2 [3]"])
 
     def test_texts(self):
         self.check_raises(InvalidText(at=2), Shape.read, "1 2")

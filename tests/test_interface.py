@@ -10,6 +10,7 @@ from shapebetween.programs import Program
 from shapebetween.recipes import Recipe
 from shapebetween.runs import Runs
 from shapebetween.scripts import Script
+from shapebetween.tornlogs import TornLog, torn_from
 
 FUNCTIONS = {
     "limits": ["limit_of(what)", "check_limit(what, count)"],
@@ -33,8 +34,24 @@ FUNCTIONS = {
     "surroundings": ["past_behind(past, form)", "future_ahead(form, future)", "fits_between(past, form, future)",
                      "parting_surroundings(one, other)"],
     "badwalks": ["is_safe(program)", "bad_walk(program)", "bad_pair(program)"],
+    "tables": ["least_table(program)", "waiting(program)", "table_fault(program, table)"],
+    "standings": ["standings(program)"],
+    "mending": ["mended(program)"],
+    "weaving": ["weaving_count(first, *others)", "weavings(first, *others)", "weaving_at(number, first, *others)",
+                "woven(first, *others)"],
+    "lazy": ["lazy_script(wishes, *, side='both')", "holds(script, wishes)", "last_touches(script)", "leaning(script)"],
+    "gates": ["gates_of(wishes, *, side='rising')", "is_gate(wishes, gate)", "are_apart(wishes, one, other)",
+              "lower_bound(wishes)", "gates_fault(wishes, gates)"],
+    "prices": ["price(wishes, *, most=5)", "cheapest(wishes, *, most=5)", "box_cells(wishes, clash)"],
+    "pricepapers": ["price_paper(wishes, most)", "price_fault(wishes, most, paper)"],
+    "views": ["backward(script)", "mirrored(script)", "cut_moments(script, start, stop)",
+              "cut_keys(script, one, other)", "exchanged(script)", "keys_merged(script, key)",
+              "moments_merged(script, moment)", "walled(one, other, wall)"],
+    "tornlogs": ["torn_from(script, cells)"],
+    "tornpapers": ["torn_paper(log)", "torn_fault(log, paper)"],
 }
-GENERATORS = {"all_shapes", "closed_lots", "resolving_shapes", "all_trees", "common_shapes", "walk_all"}
+GENERATORS = {"all_shapes", "closed_lots", "resolving_shapes", "all_trees", "common_shapes", "walk_all", "weavings",
+              "fillings"}
 RULE = ["ordered(self, shape, row, rest)", "__call__(self, shape, row, rest)", "favourites(self)", "__repr__(self)"]
 CLASSES = {
     ("rows", "Row", "(lot, *, coming=None, going=None)"): [
@@ -83,13 +100,27 @@ CLASSES = {
     ("programs", "Program", "(living, nodes, edges=())"): [
         "nodes(self)", "edges(self)", "leaving(self, node)", "end_of(self, walk)", "script_of(self, walk)",
         "__eq__(self, other)", "__len__(self)", "__repr__(self)"],
+    ("tornlogs", "TornLog", "(living, rows=())"): [
+        "rows(self)", "__iter__(self)", "__getitem__(self, at)", "__setitem__(self, at, worth)",
+        "write(self, moment, key, word)", "unread_cells(self)", "filling_count(self)", "can_be(self)",
+        "fillings(self)", "filling_at(self, number)", "sure_cells(self)", "is_filling(self, script)", "twin(self)",
+        "__len__(self)", "__bool__(self)", "__repr__(self)"],
+    ("benches", "Bench", "()"): [
+        "do(self, deed)", "undo(self)", "redo(self)", "play(self, deeds)", "begin(self)", "keep(self)",
+        "cancel(self)", "names(self)", "store(self, name)", "journal(self)", "report(self)", "twin(self)",
+        "__contains__(self, name)", "__len__(self)", "__bool__(self)", "__repr__(self)"],
+    ("lookers", "Looker", "()"): [
+        "look(self, paper)", "look_all(self, *papers)", "faults(self)", "__len__(self)", "__bool__(self)",
+        "__repr__(self)"],
 }
 PROPERTIES = {"stores.Store": ["tree", "present", "next_count", "age"],
-              "twoends.TwoEnds": ["past_tree", "future_tree", "at_begin", "at_end"]}
+              "twoends.TwoEnds": ["past_tree", "future_tree", "at_begin", "at_end"],
+              "benches.Bench": ["drafting"], "lookers.Looker": ["held", "refused"]}
 ATTRIBUTES = {"scripts.Script": ["living", "end", "feasible", "past", "future"],
               "meeting.Meeting": ["living", "past", "future", "meets", "crossing", "total"],
               "runs.Runs": ["script", "total"], "forms.Form": ["living", "feasible", "past", "future", "idle"],
-              "recipes.Recipe": ["living"], "programs.Program": ["living", "start"]}
+              "recipes.Recipe": ["living"], "programs.Program": ["living", "start"],
+              "tornlogs.TornLog": ["living"]}
 STATIC = {"read", "level", "of_shape"}
 
 
@@ -131,7 +162,8 @@ class TestInterface(unittest.TestCase):
                 "meeting.Meeting": [Meeting(script.past, script.future)], "runs.Runs": [Runs(script)],
                 "forms.Form": [Form(script), Form(script) + Form(script), Form(Script((1, 2), [(1,), (2,)])),
                                Form(script) + Form(Script((1, 2), [(2,)]))],
-                "recipes.Recipe": [Recipe((1, 2))], "programs.Program": [Program((1, 2), ["a"])]}
+                "recipes.Recipe": [Recipe((1, 2))], "programs.Program": [Program((1, 2), ["a"])],
+                "tornlogs.TornLog": [TornLog((1, 2), ["#?"]), TornLog((1, 2)).twin(), torn_from(script, [])]}
         for name, words in ATTRIBUTES.items():
             for value in made[name]:
                 for word in words:
