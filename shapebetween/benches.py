@@ -149,15 +149,14 @@ def deed_parts(value):
 
 
 def behind_name(word, text):
-    """What the text behind the name of a deed with this word tells, None if it cannot stand there."""
+    """What the text behind the name of a deed with this word tells, None if it cannot stand there.
+
+    The text is empty, or begins with the space behind the name.
+    """
     if word == DROP:
         return text if text == "" else None
-    if word == NEW and text == "":
-        return ()
-    if not text.startswith(" "):
-        return None
     if word == NEW:
-        return keys_of_words(text[1:].split(" "))
+        return keys_of_words(text[1:].split(" ")) if text else ()
     if word == TWIN:
         return text[1:] if is_name(text[1:]) else None
     return read_row(text[1:]) if word == ROW else None

@@ -7,8 +7,8 @@ from shapebetween.weaktrees import WeakTree, unmet_need
 YES = "yes"
 NO = "no"
 UNREAD = "unread"
-SIGNS = {YES: "#", NO: ".", UNREAD: "?"}
-WORDS = {"#": YES, ".": NO, "?": UNREAD}
+SIGNS = {"yes": "#", "no": ".", "unread": "?"}
+WORDS = {"#": "yes", ".": "no", "?": "unread"}
 
 
 class FillingTable:

@@ -55,7 +55,7 @@ def clash_layers(wishes, most):
         for cells, clash in layers[-1].items():
             for cell in open_cells(wishes, cells, clash):
                 longer[tuple(sorted([*cells, cell]))] = True
-        layers.append(clashes_of(wishes, sorted(list(longer))))
+        layers.append(clashes_of(wishes, list(longer)))
     return layers
 
 

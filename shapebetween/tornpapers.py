@@ -10,7 +10,7 @@ from shapebetween.lots import is_ascending, lives_in
 from shapebetween.rows import Row
 
 # How many numbers stand behind the word of a reason.
-SIZES = {BLANK: 1, CLASH: 4, SPLIT: 2}
+SIZES = {"blank": 1, "clash": 4, "split": 2}
 
 
 def torn_paper(log):

@@ -210,6 +210,9 @@ class TestFaults(PlainCase):
                               ((2, 3, 2, 1), "clash"), ((0, 4, 1, 2), "clash"), ((-1, 2, 1, 2), "clash"),
                               ((0, 2, 1, 4), "clash"), ((0, 2, 0, 2), "clash"), ((0, 1, 1, 2), "clash")]:
             self.assertEqual(torn_fault(log, (((), ("clash", *clash)),)), wanted, clash)
+        # One key alone is no clash, and neither are two moments that both touch it.
+        alone = TornLog((1, 2), ["#.", "..", "#."])
+        self.assertEqual(torn_fault(alone, (((), ("clash", 0, 2, 1, 1)),)), "clash")
         told = TornLog((1, 2, 3), ["#?.", ".#."])
         self.assertEqual(torn_fault(told, (((), ("clash", 0, 1, 1, 2)),)), "clash")
         entries = (((), ("split", 0, 2)), (((0, 2, "no"),), ("clash", 0, 1, 1, 2)), (((0, 2, "yes"),), ("clash", 0, 1, 1, 2)))
