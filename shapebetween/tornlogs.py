@@ -2,8 +2,9 @@
 
 from shapebetween.cells import is_cell
 from shapebetween.errors import InvalidRow, InvalidWord, NoFilling, UnknownCell
+from shapebetween.fillingtables import FillingTable
 from shapebetween.limits import check_end, check_limit
-from shapebetween.logwords import NO, SIGNS, UNREAD, WORDS, YES, FillingTable, is_word, rows_with, words_of
+from shapebetween.logwords import NO, SIGNS, UNREAD, WORDS, YES, is_word, rows_with, words_of
 from shapebetween.lots import check_living
 from shapebetween.scripts import Script, check_unmarked
 
@@ -53,14 +54,15 @@ class TornLog:
 
     def sure_cells(self):
         """The dict from the sure cells to their words."""
-        total = self.filling_count()
-        if total == 0:
+        table = FillingTable(self.living, self._rows)
+        if table.total == 0:
             raise NoFilling()
+        touched = table.touch_counts()
         found = {}
         for cell in self.unread_cells():
-            without = FillingTable(self.living, rows_with(self.living, self._rows, cell, NO)).total
-            if without in (0, total):
-                found[cell] = YES if without == 0 else NO
+            many = touched.get(cell, 0)
+            if many in (0, table.total):
+                found[cell] = NO if many == 0 else YES
         return found
 
     def is_filling(self, script):

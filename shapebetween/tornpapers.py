@@ -96,7 +96,7 @@ def is_reason(value):
 
 def is_right(log, words, reasons, told):
     """Whether the reason of an entry is right."""
-    known = {**words, **{(moment, key): word for moment, key, word in told}}
+    known = {**words, **{cell[:2]: cell[2] for cell in told}}
     word, *numbers = reasons[told]
     if word == BLANK:
         return is_blank(log, known, numbers[0])
