@@ -158,6 +158,7 @@ class TestErrors(PlainCase):
     def test_at_the_limits(self):
         self.assertEqual(weaving_count(calm(60)), 1)
         self.assertEqual(weaving_at(0, calm(60)), calm(60))
+        self.assertEqual(weaving_at(number=0, first=calm(3)), calm(3))
         self.assertEqual(weaving_count(calm(30), calm(30)), math.comb(60, 30))
         self.assertEqual(weaving_count(*[calm(0)] * 5), 1)
         self.assertEqual(woven(*[calm(0)] * 5), Program((1, 2), ["p0x0x0x0x0"]))
